@@ -1,0 +1,1 @@
+"""Clipforms: a clipboard whose forms are made only when asked."""

@@ -1,0 +1,69 @@
+"""The interface: names, arguments, and the files in which they are defined."""
+
+import ast
+import inspect
+import pathlib
+import unittest
+
+from clipforms import contents, errors, forms
+
+FUNCTIONS = {
+    contents: {
+        "is_content": ["thing"], "is_word": ["thing"], "drop": ["content", "feature"],
+        "keep": ["content", "features"], "used": ["content"],
+    },
+    forms: {
+        "is_form": ["thing"], "carried": ["form"], "write": ["form", "content"], "read": ["form", "text"],
+    },
+}
+ERRORS = {
+    "SyntaxProblem": ["line", "column"], "NotCarried": ["feature"], "NotMakable": ["form", "closed"],
+    "Gone": ["closed"], "TooMany": ["limit"],
+}
+PACKAGE = pathlib.Path(contents.__file__).parent
+MOST_FILE_LINES = 399
+MOST_FUNCTION_LINES = 40
+MOST_LINE_CHARACTERS = 120
+
+
+class Interface(unittest.TestCase):
+    def test_functions(self):
+        for module, functions in FUNCTIONS.items():
+            for name, arguments in functions.items():
+                with self.subTest(name):
+                    function = getattr(module, name)
+                    self.assertEqual(list(inspect.signature(function).parameters), arguments)
+                    self.assertEqual(function.__module__, module.__name__)
+
+    def test_errors_with_fields(self):
+        for name, arguments in ERRORS.items():
+            with self.subTest(name):
+                self.assertEqual(list(inspect.signature(getattr(errors, name)).parameters), arguments)
+
+    def test_plain(self):
+        self.assertEqual(forms.PLAIN, ("plain",) + ("",) * 8)
+
+
+class Sizes(unittest.TestCase):
+    """The sizes and characters that the rules of the language allow."""
+
+    def sources(self):
+        return {path.name: path.read_text(encoding="utf-8") for path in sorted(PACKAGE.rglob("*.py"))}
+
+    def test_characters(self):
+        for name, source in self.sources().items():
+            with self.subTest(name):
+                self.assertTrue(all(char == "\n" or " " <= char <= "~" for char in source))
+
+    def test_files_and_lines(self):
+        for name, source in self.sources().items():
+            with self.subTest(name):
+                self.assertLessEqual(len(source.splitlines()), MOST_FILE_LINES)
+                self.assertLessEqual(max(map(len, source.splitlines()), default=0), MOST_LINE_CHARACTERS)
+
+    def test_functions(self):
+        for name, source in self.sources().items():
+            for node in ast.walk(ast.parse(source)):
+                if isinstance(node, ast.FunctionDef):
+                    with self.subTest((name, node.name)):
+                        self.assertLessEqual(node.end_lineno - node.lineno + 1, MOST_FUNCTION_LINES)
