@@ -104,3 +104,11 @@ class HistoryFull(ClipError):
 
 class InvalidCommand(ClipError):
     """A line is no command."""
+
+
+class NoDesk(ClipError):
+    """There is no such desk, or a desk cannot have this name."""
+
+
+class NoLink(ClipError):
+    """There is no such link, or there cannot be one."""

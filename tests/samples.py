@@ -1,5 +1,6 @@
-"""What several tests need: contents, forms, and objects of all kinds."""
+"""What several tests need: contents, forms, makers, objects of all kinds, and changes of objects."""
 
+import random
 from itertools import product
 
 NO = ("", False, False)
@@ -103,3 +104,80 @@ def objects_of_all_kinds():
         nested(30, lambda thing: (thing,)), nested(30, lambda thing: [thing]), nested(30, lambda thing: {1: thing}),
         [0] * 4999, ((),) * 4999, {number: None for number in range(2000)}, (1, [2, {"a": (3, None)}], "b"),
     ]
+
+
+# A content that uses all features.
+SMALL = (
+    (1, (cell("a", ("b", ("w1", True, True))), cell(("c", SLANT), ("d", BOLD), "*|!"))),
+    (0, (cell(),)),
+)
+# Forms under their names, for makers: each with the features that it carries.
+FEATURES_OF = {
+    "plain": (), "full": ALL_FEATURES, "all": ALL_FEATURES, "cell": ("cells",), "tree": ("nest", "link"),
+    "star": ("bold",), "dot": ("bold",), "page": ("cells", "bold", "slant"), "note": ("nest", "link", "bold"),
+}
+
+
+def forms_named(*names):
+    """A dict of forms from their names, plain among them."""
+    return {name: (name,) + form_carrying(FEATURES_OF[name])[1:] for name in ("plain",) + names}
+
+
+def is_carried(forms, name, features):
+    """Whether a form carries all of the features."""
+    return all(forms[name][FEATURE_SIGNS[feature][0]] != "" for feature in features)
+
+
+def going(forms, makers, features):
+    """The makers whose two forms carry all of the features."""
+    return [maker for maker in makers if all(is_carried(forms, name, features) for name in maker[1:3])]
+
+
+def chains_from(makers, start, ahead=()):
+    """All chains that come to no form twice, as pairs of their last form and their makers."""
+    yield start, ahead
+    for maker in makers:
+        if maker[1] == start and all(maker[2] not in other[1:3] for other in ahead):
+            yield from chains_from(makers, maker[2], ahead + (maker,))
+
+
+def label(chain):
+    """The cost, the number and the names of a chain."""
+    return (sum(maker[3] for maker in chain), len(chain), tuple(maker[0] for maker in chain))
+
+
+def led_to(makers, starts):
+    """The ascending tuple of the forms to which chains lead from one of the starts."""
+    return tuple(sorted({end for start in starts for end, _ in chains_from(makers, start)}))
+
+
+def random_graph(seed, most_forms=6, most_makers=9):
+    """Forms and makers that come from a number: with many ties, and with makers to and fro."""
+    chooser = random.Random(seed)
+    names = chooser.sample(sorted(FEATURES_OF), chooser.randint(2, most_forms))
+    forms = forms_named(*names)
+    words = chooser.sample(["a", "b", "c1", "d", "ee", "f", "g0", "0", "zz", "k"], chooser.randint(0, most_makers))
+    makers = []
+    for word in words:
+        source, target = chooser.sample(sorted(forms), 2)
+        makers.append((word, source, target, chooser.choice([0, 0, 1, 1, 2, 1000])))
+    return chooser, forms, tuple(makers)
+
+
+def all_changes(thing, others):
+    """All objects like this one with one thing changed at one place, in it or of it."""
+    for other in others:
+        yield other
+    if isinstance(thing, str):
+        yield from (thing + "x", thing[:-1], thing.upper() + " ", (thing,))
+    elif isinstance(thing, bool):
+        yield from (not thing, int(thing))
+    elif isinstance(thing, int):
+        yield from (thing + 1, thing - 1, -thing - 5, thing == 1, str(thing))
+    elif isinstance(thing, tuple):
+        yield from (list(thing), thing[::-1], thing + thing[-1:], thing + (thing,), (thing,))
+        for at, part in enumerate(thing):
+            yield thing[:at] + thing[at + 1:]
+            yield thing[:at] + (part,) + thing[at:]
+            for change in all_changes(part, others):
+                yield thing[:at] + (change,) + thing[at + 1:]
