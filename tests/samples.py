@@ -181,3 +181,9 @@ def all_changes(thing, others):
             yield thing[:at] + (part,) + thing[at:]
             for change in all_changes(part, others):
                 yield thing[:at] + (change,) + thing[at + 1:]
+
+
+def state(entry):
+    """All fields of an entry, and the order of its offer."""
+    fields = ("number", "content", "own", "features", "dues", "texts", "is_owned")
+    return [getattr(entry, field) for field in fields] + [list(entry.dues)]

@@ -11,17 +11,11 @@ from clipforms.errors import ClipError, Gone, NotOffered
 from clipforms.forms import write
 from tests.samples import (
     ALL_FEATURES, FEATURES_OF, SMALL, USE_ALONE, chains_from, forms_named, going, label, led_to, many_contents,
-    random_graph,
+    random_graph, state,
 )
 
 FORMS = forms_named("full", "all", "star", "dot", "cell", "page", "note", "tree")
 BOLD_ONE = USE_ALONE[("bold",)]
-FIELDS = ("number", "content", "own", "features", "dues", "texts", "is_owned")
-
-
-def state(entry):
-    """All fields of an entry, the order of the offer too."""
-    return [getattr(entry, field) for field in FIELDS] + [list(entry.dues)]
 
 
 def made_of(rows):

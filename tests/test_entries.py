@@ -10,17 +10,11 @@ from clipforms.errors import ClipError, NoForm, NotMakable
 from clipforms.makers import best
 from tests.samples import (
     ALL_FEATURES, FEATURES_OF, RICH, SMALL, USE_ALONE, feature_sets, form_carrying, forms_named, led_to, many_contents,
-    random_graph,
+    random_graph, state,
 )
 
 FORMS = forms_named("full", "star", "dot", "cell")
 MAKERS = (("a", "full", "star", 1), ("b", "star", "plain", 1), ("c", "cell", "dot", 1), ("d", "full", "plain", 9))
-FIELDS = ("number", "content", "own", "features", "dues", "texts", "is_owned")
-
-
-def state(entry):
-    """All fields of an entry, the order of the offer too."""
-    return [getattr(entry, field) for field in FIELDS] + [list(entry.dues)]
 
 
 class Fields(unittest.TestCase):

@@ -1,4 +1,4 @@
-"""Point 2: the errors of stage 1."""
+"""Point 2: the errors."""
 
 import unittest
 
@@ -14,6 +14,7 @@ WITH_FIELDS = {
 WITH_MESSAGE = (
     "NoContent", "NoForm", "NoMaker", "NoProgram", "NoDocument", "NoEntry", "NoPlace", "NoMark", "NotOffered",
     "NameTaken", "TooLarge", "NothingToUndo", "EditedSince", "HistoryFull", "InvalidCommand",
+    "NoDesk", "NoLink",
 )
 # Two samples of the arguments of each error with fields.
 SAMPLES = {

@@ -5,8 +5,10 @@ import inspect
 import pathlib
 import unittest
 
-from clipforms import contents, errors, forms
+from clipforms import contents, ends, entries, errors, forms, makers
 
+QUESTION = ["forms", "makers", "source", "features", "target"]
+END = ["forms", "makers", "staying", "entry", "stays_owned"]
 FUNCTIONS = {
     contents: {
         "is_content": ["thing"], "is_word": ["thing"], "drop": ["content", "feature"],
@@ -15,6 +17,20 @@ FUNCTIONS = {
     forms: {
         "is_form": ["thing"], "carried": ["form"], "write": ["form", "content"], "read": ["form", "text"],
     },
+    makers: {
+        "is_maker": ["forms", "thing"], "best": QUESTION, "shows_best": QUESTION + ["answer"],
+        "made": ["forms", "makers", "names", "content"],
+    },
+    entries: {
+        "asked": ["forms", "makers", "entry", "form"], "gives": ["forms", "makers", "entry", "form"],
+    },
+    ends: {
+        "lost_forms": END, "to_make": END, "shows_need": END + ["form", "certificate"], "ended": END,
+        "crashed": ["entry", "stays_owned"],
+    },
+}
+CLASSES = {
+    entries: {"Entry": {"__init__": ["self", "number", "content", "own", "offer", "forms", "makers"]}},
 }
 ERRORS = {
     "SyntaxProblem": ["line", "column"], "NotCarried": ["feature"], "NotMakable": ["form", "closed"],
@@ -34,6 +50,17 @@ class Interface(unittest.TestCase):
                     function = getattr(module, name)
                     self.assertEqual(list(inspect.signature(function).parameters), arguments)
                     self.assertEqual(function.__module__, module.__name__)
+
+    def test_classes(self):
+        for module, classes in CLASSES.items():
+            for name, methods in classes.items():
+                made_class = getattr(module, name)
+                self.assertEqual(made_class.__module__, module.__name__)
+                for method, arguments in methods.items():
+                    with self.subTest((name, method)):
+                        # Defined in the class itself, not only in a base class.
+                        self.assertIn(method, vars(made_class))
+                        self.assertEqual(list(inspect.signature(vars(made_class)[method]).parameters), arguments)
 
     def test_errors_with_fields(self):
         for name, arguments in ERRORS.items():
