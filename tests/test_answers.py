@@ -268,6 +268,22 @@ class Chains(Case):
         labels = (("all", (0, 2, ("c", "d"))), ("cell", (0, 1, ("c",))), ("full", (0, 0, ())))
         self.assert_shows_not(question, ("chain", (), ("c", "d"), (("bold", ("full",)),), labels))
 
+    def test_makers_that_are_no_chain_with_labels_that_fit(self):
+        forms = forms_named("star", "dot", "note", "full")
+        makers = (
+            ("a", "star", "plain", 9), ("b", "dot", "plain", 1), ("c", "star", "note", 1), ("d", "note", "full", 1),
+        )
+        question = (forms, makers, "star", (), "plain")
+        rows = (("full", (2, 2, ("c", "d"))), ("note", (1, 1, ("c",))))
+        for names, own in (
+            (("b",), (1, 1, ("b",))), (("c", "b"), (2, 2, ("c", "b"))), (("b", "b"), (2, 2, ("b", "b"))),
+            (("d", "b"), (2, 2, ("d", "b"))), (("c", "d"), (2, 2, ("c", "d"))), ((), (0, 0, ())),
+        ):
+            labels = rows + (("plain", own), ("star", (0, 0, ())))
+            self.assert_shows_not(question, ("chain", (), names, (), labels))
+        labels = rows + (("plain", (9, 1, ("a",))), ("star", (0, 0, ())))
+        self.assert_shows(question, ("chain", (), ("a",), (), labels))
+
     def test_no_chain_where_there_is_one(self):
         question = (self.forms, self.makers, "full", (), "all")
         for closed in ((), ("full",), ("cell", "full"), ("all", "cell", "full"), ("cell",), ("cell", "full", "star")):

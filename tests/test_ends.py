@@ -248,6 +248,16 @@ class Made(Case):
             self.assertEqual((forms, rows), (["plain"], (("b", "plain", ()),)))
             self.assertEqual((later.texts, later.is_owned), ((("star", ("bold",)), ("plain", ())), False))
 
+    def test_the_own_form_of_an_own_text_that_is_gone(self):
+        makers = (("a", "full", "star", 1), ("b", "star", "plain", 1), ("c", "plain", "full", 1))
+        entry = Entry(1, keep(SMALL, ()), "full", ("star", "full"), self.forms, makers)
+        entry = crashed(asked(self.forms, makers, entry, "star")[2], False)
+        self.assertEqual(lost_forms(self.forms, makers, (), entry, True), ("full",))
+        # Makers make it; what was the own text does not come back.
+        forms, rows, later = self.made(makers, (), entry, True)
+        self.assertEqual((forms, rows), (["full"], (("b", "plain", ()), ("c", "full", ()))))
+        self.assertEqual(later.texts, (("star", ()), ("plain", ()), ("full", ())))
+
 
 class Crashes(Case):
     makers = (("a", "full", "star", 1), ("b", "star", "plain", 1))
