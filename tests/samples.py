@@ -187,3 +187,36 @@ def state(entry):
     """All fields of an entry, and the order of its offer."""
     fields = ("number", "content", "own", "features", "dues", "texts", "is_owned")
     return [getattr(entry, field) for field in fields] + [list(entry.dues)]
+
+
+def loose(content):
+    """A content as lists: of lines, of cells, of characters with their marks."""
+    return [[depth, [[(char, marks) for text, marks in cell for char in text] for cell in cells]]
+            for depth, cells in content]
+
+
+def tight(lines):
+    """The content of such lists."""
+    return tuple((depth, tuple(tight_cell(cell) for cell in cells)) for depth, cells in lines)
+
+
+def tight_cell(chars):
+    """The cell of characters with their marks."""
+    pieces = []
+    for char, marks in chars:
+        if pieces and pieces[-1][1] == marks:
+            pieces[-1] = (pieces[-1][0] + char, marks)
+        else:
+            pieces.append((char, marks))
+    return tuple(pieces)
+
+
+def inside(thing):
+    """All that an object is made of, own objects by their fields: to see whether anything changed."""
+    if isinstance(thing, (list, tuple)):
+        return [type(thing).__name__] + [inside(part) for part in thing]
+    if isinstance(thing, dict):
+        return ["dict"] + [(key, inside(part)) for key, part in thing.items()]
+    if hasattr(thing, "__dict__"):
+        return [type(thing).__name__, inside(vars(thing))]
+    return thing
