@@ -69,3 +69,60 @@ class StageFiveExamples(unittest.TestCase):
             [lost_forms(forms, makers, makers[1:], entry, False), to_make(forms, makers, makers[1:], entry, False), ended(forms, makers, makers[1:], entry, False)[0]],
             [('plain', 'dot'), (('dot', (('dot',), ('dot',))),), (('a', 'dot', ('bold',)),)],
         )
+
+
+class StageSixExamples(unittest.TestCase):
+    def test_edited(self):
+        from clipforms.documents import edited
+        from clipforms.forms import PLAIN, read, write
+        content = read(PLAIN, "ab\nc")
+        self.assertEqual(
+            [write(PLAIN, edited(PLAIN, content, edit)) for edit in [("cut", 0, 0, 1), ("glue", 0), ("delete", 0, 0), ("enter", 1, 0, 1, "d", ("", False, False))]],
+            ['a\nb\nc', 'abc', 'c', 'ab\ncd'],
+        )
+
+    def test_not_carried(self):
+        from clipforms.documents import edited
+        from clipforms.errors import NotCarried
+        from clipforms.forms import PLAIN, read
+        with self.assertRaises(NotCarried) as caught:
+            edited(PLAIN, read(PLAIN, "ab"), ("mark", 0, 0, 0, 1, "bold", True))
+        self.assertEqual(caught.exception.feature, 'bold')
+
+
+class StageSevenExamples(unittest.TestCase):
+    def test_end(self):
+        from clipforms.desk import Desk
+        desk = Desk()
+        program = desk.begin("pad")
+        desk.bring(program, ("star", "", "", "*", "", "", "", "", "!"))
+        desk.supply(program, ("a", "star", "plain", 1))
+        document = desk.open_document(program, "star", "a *b*")
+        entry = desk.copy(document, ("lines", 0, 0), None, False)
+        desk.edit(document, ("erase", 0, 0, 0, 1))
+        told = [desk.offered(entry), desk.end(program)]
+        self.assertEqual(
+            [told, desk.ask(entry, "star"), desk.can_ask(entry), desk.log()],
+            [[[('plain', ()), ('star', ('bold',))], [(1, 'plain', (('plain',), ('plain',))), (1, 'star', (('star',), ('star',)))]], 'a *b*', ['plain', 'star'], [(1, 'a', 'plain', ())]],
+        )
+
+    def test_move(self):
+        from clipforms.desk import Desk
+        desk = Desk()
+        document = desk.open_document(desk.begin("pad"), "plain", "ab\ncd")
+        desk.drag(document, ("lines", 1, 1), document, (0, 0, 1), True)
+        before = desk.text(document)
+        desk.undo(document)
+        self.assertEqual([before, desk.text(document)], ['acdb', 'ab\ncd'])
+
+
+class StageEightExamples(unittest.TestCase):
+    def test_console(self):
+        from clipforms.console import Console
+        console = Console()
+        lines = ["begin pad", "bring 1 star none none * none none none none !", "supply 1 a star plain 1", "open 1 star : a *b*"]
+        begun = [console.execute(line) for line in lines]
+        self.assertEqual(
+            [begun, [console.execute(line) for line in ("copy 1 lines 0 0 : all", "offered 1", "enter 1 0 0 0 - b : x", "text 1", "ask 1 plain", "log")]],
+            [['1', 'ok', 'ok', '1'], ['1', 'plain nothing, star bold', 'ok', '*x*a *b*', 'a b', '1 a plain nothing']],
+        )

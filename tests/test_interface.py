@@ -5,7 +5,7 @@ import inspect
 import pathlib
 import unittest
 
-from clipforms import contents, ends, entries, errors, forms, makers
+from clipforms import console, contents, desk, documents, ends, entries, errors, forms, makers
 
 QUESTION = ["forms", "makers", "source", "features", "target"]
 END = ["forms", "makers", "staying", "entry", "stays_owned"]
@@ -28,9 +28,26 @@ FUNCTIONS = {
         "lost_forms": END, "to_make": END, "shows_need": END + ["form", "certificate"], "ended": END,
         "crashed": ["entry", "stays_owned"],
     },
+    documents: {
+        "edited": ["form", "content", "edit"], "selected": ["content", "selection"],
+        "put": ["form", "content", "place", "more"], "moved_within": ["form", "content", "selection", "place"],
+        "checked": ["form", "content"],
+    },
 }
 CLASSES = {
-    entries: {"Entry": {"__init__": ["self", "number", "content", "own", "offer", "forms", "makers"]}},
+    entries: {"Entry": {"__init__": ["number", "content", "own", "offer", "forms", "makers"]}},
+    desk: {"Desk": {
+        "__init__": [], "begin": ["name"], "living": [], "bring": ["program", "form"], "known_forms": [],
+        "supply": ["program", "maker"], "supplied": [], "open_document": ["program", "form", "text"],
+        "open_documents": [], "close": ["document"], "content_of": ["document"], "text": ["document"],
+        "edit": ["document", "edit"], "undo": ["document"], "redo": ["document"],
+        "copy": ["document", "selection", "offer", "is_once"], "offered": ["entry"], "can_ask": ["entry"],
+        "ask": ["entry", "form"], "log": [], "end": ["program"], "crash": ["program"], "history": [],
+        "front": ["entry"], "pin": ["entry"], "unpin": ["entry"], "drop": ["entry"],
+        "paste": ["entry", "forms", "document", "place"],
+        "drag": ["document", "selection", "target", "place", "is_move"], "mark": [], "back": ["number"],
+    }},
+    console: {"Console": {"__init__": [], "execute": ["line"]}},
 }
 ERRORS = {
     "SyntaxProblem": ["line", "column"], "NotCarried": ["feature"], "NotMakable": ["form", "closed"],
@@ -60,7 +77,7 @@ class Interface(unittest.TestCase):
                     with self.subTest((name, method)):
                         # Defined in the class itself, not only in a base class.
                         self.assertIn(method, vars(made_class))
-                        self.assertEqual(list(inspect.signature(vars(made_class)[method]).parameters), arguments)
+                        self.assertEqual(list(inspect.signature(vars(made_class)[method]).parameters)[1:], arguments)
 
     def test_errors_with_fields(self):
         for name, arguments in ERRORS.items():

@@ -3,7 +3,7 @@
 import unittest
 
 from clipforms.desk import Desk
-from clipforms.errors import NoMark, NothingToUndo
+from clipforms.errors import EditedSince, NoMark, NothingToUndo
 from tests.samples import NO, forms_named, inside, objects_of_all_kinds
 
 FORMS = forms_named("full", "star", "cell")
@@ -141,6 +141,30 @@ class Marks(Case):
         self.assertEqual(desk.open_document(1, "plain", "b"), 1)
         desk.back(0)
         self.assertEqual(told_of_none(desk), empty)
+
+    def test_numbers_go_on_as_they_did_at_the_mark(self):
+        desk = self.desk
+        mark = desk.mark()
+        for _ in range(2):
+            for _ in range(2):
+                desk.back(mark)
+                self.assertEqual(desk.begin("new"), 3)
+                self.assertEqual(desk.open_document(3, "plain", ""), 3)
+                self.assertEqual(desk.copy(3, ("lines", 0, 0), None, False), 3)
+            self.assertEqual(desk.open_document(3, "plain", ""), 4)
+
+    def test_moves_and_later_edits_are_told_apart(self):
+        desk = Desk()
+        program = desk.begin("pad")
+        one, two = [desk.open_document(program, "plain", text) for text in ("ab", "x")]
+        desk.drag(one, ("range", 0, 0, 0, 1), two, (0, 0, 0), True)
+        desk.back(desk.mark())
+        desk.edit(two, ("enter", 0, 0, 0, "y", NO))
+        with self.assertRaises(EditedSince):
+            desk.undo(one)
+        desk.undo(two)
+        desk.undo(one)
+        self.assertEqual([desk.text(one), desk.text(two)], ["ab", "x"])
 
     def test_forms_are_known_no_more(self):
         desk = Desk()

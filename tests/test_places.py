@@ -258,6 +258,12 @@ class MovedWithin(unittest.TestCase):
                     moved_within(FULL, content + EMPTY, ("lines", len(content), len(content)),
                                  (len(content) + 1, 0, 0) if place[0] == len(content) else place)
 
+    def test_all_is_moved_behind_itself(self):
+        for content in CONTENTS:
+            for place in ((len(content), 0, 0), (-1, 0, 0), (2 * len(content), 0, 0)):
+                with self.subTest(place), self.assertRaises(NoPlace):
+                    moved_within(FULL, content, ("lines", 0, len(content) - 1), place)
+
     def test_forms_without_nest(self):
         content = one_line(cell("a")) + one_line(cell("b"), cell(("c", BOLD)))
         self.assertEqual(moved_within(NO_NEST, content, ("lines", 1, 1), (0, 0, 0)), content)
