@@ -351,6 +351,14 @@ class Moves(Case):
         self.desk.redo(self.one)
         self.assertEqual(self.redo_all(self.other), ["y" * many + "xbc" for many in range(1, 50)])
 
+    def test_a_move_that_the_other_one_has_forgotten(self):
+        self.move()
+        for _ in range(50):
+            self.enter(self.other, "y")
+        self.assertEqual(len(self.undo_all(self.other)), 50)
+        self.assertEqual(self.both(), ["ad", "xbc"])
+        self.refuse(EditedSince, self.desk.undo, self.one)
+
     def test_moves_are_undone_behind_going_back(self):
         self.move()
         mark = self.desk.mark()
