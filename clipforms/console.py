@@ -1,6 +1,6 @@
 """The console: a desk that is worked by lines of text."""
 
-from clipforms.contents import is_word
+from clipforms.contents import is_characters, is_word
 from clipforms.desk import Desk
 from clipforms.errors import InvalidCommand
 
@@ -122,7 +122,7 @@ class Words:
 
     def take_characters(self):
         """Take all behind the words, characters alone."""
-        if self.text == "" or not all(" " <= character <= "~" for character in self.text):
+        if not is_characters(self.text):
             raise InvalidCommand("not one or more characters")
         return self.text
 
@@ -189,6 +189,16 @@ def listed(rows):
     return ", ".join([" ".join([str(part) for part in row]) for row in rows])
 
 
+def written_made(rows):
+    """Return what was made before an end as it is answered; the rows end with certificates."""
+    return listed([row[:-1] for row in rows]) or "nothing"
+
+
+def with_sets(rows):
+    """Return rows that end with a set, each with this set as it is answered."""
+    return [(*row[:-1], written_set(row[-1])) for row in rows]
+
+
 def run_bring(desk, program, name, signs):
     """Bring a form."""
     desk.bring(program, (name, *signs))
@@ -208,7 +218,7 @@ def run_begin(desk, name):
 
 def run_end(desk, program):
     """End a program."""
-    return listed([(entry, form) for entry, form, _ in desk.end(program)]) or "nothing"
+    return written_made(desk.end(program))
 
 
 def run_open(desk, program, form, text):
@@ -238,7 +248,7 @@ def run_copyonce(desk, document, selection, offer):
 
 def run_offered(desk, entry):
     """Answer what an entry offers."""
-    return listed([(form, written_set(features)) for form, features in desk.offered(entry)])
+    return listed(with_sets(desk.offered(entry)))
 
 
 def run_can(desk, entry):
@@ -280,7 +290,7 @@ def run_makers(desk):
 
 def run_log(desk):
     """Answer what the makers have made."""
-    return listed([(entry, maker, form, written_set(features)) for entry, maker, form, features in desk.log()])
+    return listed(with_sets(desk.log()))
 
 
 def run_history(desk):

@@ -61,9 +61,14 @@ def is_piece(thing):
     if not isinstance(thing, tuple) or len(thing) != 2:
         return False
     text, marks = thing
-    if not isinstance(text, str) or text == "":
+    return is_characters(text) and is_marks(marks)
+
+
+def is_characters(thing):
+    """Return whether any object is a text of one or more characters, and of nothing else."""
+    if not isinstance(thing, str) or thing == "":
         return False
-    return is_marks(marks) and all(" " <= character <= "~" for character in text)
+    return all(" " <= character <= "~" for character in thing)
 
 
 def is_marks(thing):

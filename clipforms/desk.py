@@ -1,13 +1,13 @@
 """The desk: programs with their documents, and the history of what they copied."""
 
 from clipforms.chains import common
-from clipforms.contents import FEATURES, is_integer, is_word, keep
+from clipforms.contents import is_integer, is_word, keep
 from clipforms.documents import Document, behind_redo, behind_undo, checked, edited, moved_within, put, selected
 from clipforms.documents import unselected, with_content
 from clipforms.ends import crashed, ended, to_make
-from clipforms.entries import Entry, asked, gives
+from clipforms.entries import Entry, asked, gives, taken
 from clipforms.errors import HistoryFull, NameTaken, NoDocument, NoEntry, NoForm, NoMaker, NoMark, NoProgram
-from clipforms.errors import NotOffered, TooMany
+from clipforms.errors import TooMany
 from clipforms.forms import PLAIN, carried, is_form, read, write
 from clipforms.makers import is_maker, named
 
@@ -19,7 +19,7 @@ MOST_ENTRIES = 20
 
 
 class Kept:
-    """What the history keeps of a copy at one moment; each change of it makes a new one."""
+    """What is kept of a copy at one moment; each change of it makes a new one."""
 
     def __init__(self, entry, program, is_once, is_pinned):
         self.entry = entry
@@ -29,36 +29,47 @@ class Kept:
 
 
 class State:
-    """All that a desk has. What stands in its lists and dicts is never changed, so a mark copies these alone."""
+    """What desks and halls have. What stands in lists and dicts is never changed, so a copy has new ones of these."""
 
     def __init__(self):
         self.programs = {}
         self.forms = {PLAIN[0]: PLAIN}
+        # (program, maker) in the order they came.
         self.makers = []
         self.documents = {}
         self.entries = {}
-        # The numbers of the entries, as they stand in the history.
-        self.order = []
         self.rows = []
-        self.last_program = 0
-        self.last_document = 0
-        self.last_entry = 0
-        self.last_step = 0
+        self.last = {"program": 0, "document": 0, "entry": 0, "step": 0}
 
-    def copied(self):
-        """Return a state like this one, which does not change with it."""
-        other = State()
+    def copy_to(self, other):
+        """Give all of this to another state, which does not change with it."""
         other.programs = dict(self.programs)
         other.forms = dict(self.forms)
         other.makers = list(self.makers)
         other.documents = dict(self.documents)
         other.entries = dict(self.entries)
-        other.order = list(self.order)
         other.rows = list(self.rows)
-        other.last_program = self.last_program
-        other.last_document = self.last_document
-        other.last_entry = self.last_entry
-        other.last_step = self.last_step
+        other.last = dict(self.last)
+
+    def new_number(self, kind):
+        """Return the number of a new thing of a kind."""
+        self.last[kind] += 1
+        return self.last[kind]
+
+
+class DeskState(State):
+    """All that a desk has."""
+
+    def __init__(self):
+        State.__init__(self)
+        # The numbers of the entries, as they stand in the history.
+        self.order = []
+
+    def copied(self):
+        """Return a state like this one, which does not change with it."""
+        other = DeskState()
+        self.copy_to(other)
+        other.order = list(self.order)
         return other
 
 
@@ -67,24 +78,11 @@ def is_number_in(table, thing):
     return is_integer(thing) and thing in table
 
 
-def worth(features):
-    """Return what grows with a set of features in the order of worth."""
-    return [feature in features for feature in FEATURES]
+class Office:
+    """What desks and halls do in the same way with their state and with the marks of it."""
 
-
-def taken(dues, forms, able):
-    """Return the form that a paste takes of a list, for a document whose form carries the able features."""
-    offered = [form for form in forms if form in dues]
-    if not offered:
-        raise NotOffered("the entry offers none of the forms")
-    return max(offered, key=lambda form: worth(common(dues[form], able)))
-
-
-class Desk:
-    """Programs, their documents, and the history of what was copied from these."""
-
-    def __init__(self):
-        self.state = State()
+    def __init__(self, state):
+        self.state = state
         self.marks = []
 
     def need_program(self, program):
@@ -99,10 +97,79 @@ class Desk:
         return self.state.documents[document]
 
     def need_entry(self, entry):
-        """Return what the history keeps under this number; raise NoEntry if any object is not one."""
+        """Return what is kept under this number; raise NoEntry if any object is not one."""
         if not is_number_in(self.state.entries, entry):
-            raise NoEntry("there is no such entry in the history")
+            raise NoEntry("there is no such entry")
         return self.state.entries[entry]
+
+    def new_document(self, program, names, form, text):
+        """Open a document of a program, in a form of these names, with what the text writes; return its number."""
+        if not isinstance(form, str) or form not in names:
+            raise NoForm("there is no known form of this name")
+        signs = self.state.forms[form]
+        content = read(signs, text)
+        if len(self.state.documents) == MOST_DOCUMENTS:
+            raise TooMany(MOST_DOCUMENTS)
+        number = self.state.new_number("document")
+        self.state.documents[number] = Document(program, signs, content, (), ())
+        return number
+
+    def document_rows(self):
+        """Return the list of (number, program, name of the form) of the open documents, ascending."""
+        return sorted([(number, held.program, held.form[0]) for number, held in self.state.documents.items()])
+
+    def text_of(self, document):
+        """Return the text of a document in its form."""
+        held = self.need_document(document)
+        return write(held.form, held.content)
+
+    def keep_made(self, rows, later):
+        """Keep an entry with what was made of it, and rows of this in the log."""
+        number = later.number
+        self.state.rows.extend([(number, maker, form, features) for maker, form, features in rows])
+        held = self.state.entries[number]
+        self.state.entries[number] = Kept(later, held.program, held.is_once, held.is_pinned)
+
+    def make_before(self, forms, makers, staying, programs):
+        """Make what would be lost with some programs, if only some makers stay; return rows of it with certificates."""
+        told = []
+        numbers = sorted(self.state.entries)
+        for number in numbers:
+            held = self.state.entries[number]
+            stays_owned = held.program not in programs
+            made = to_make(forms, makers, staying, held.entry, stays_owned)
+            told.extend([(number, form, certificate) for form, certificate in made])
+            rows, later = ended(forms, makers, staying, held.entry, stays_owned)
+            self.keep_made(rows, later)
+        return told
+
+    def take_programs(self, programs):
+        """Take some programs away, with their makers, their documents, and the own texts of their entries."""
+        state = self.state
+        for held in list(state.entries.values()):
+            self.keep_made((), crashed(held.entry, held.program not in programs))
+        state.programs = {number: row for number, row in state.programs.items() if number not in programs}
+        state.makers = [(program, maker) for program, maker in state.makers if program not in programs]
+        state.documents = {number: held for number, held in state.documents.items() if held.program not in programs}
+
+    def new_mark(self):
+        """Keep all of the state; return the number of the mark."""
+        self.marks.append(self.state.copied())
+        return len(self.marks) - 1
+
+    def back_to(self, number):
+        """Go back to a mark; later marks are gone."""
+        if not is_integer(number) or not 0 <= number < len(self.marks):
+            raise NoMark("there is no such mark")
+        del self.marks[number + 1:]
+        self.state = self.marks[number].copied()
+
+
+class Desk(Office):
+    """Programs, their documents, and the history of what was copied from these."""
+
+    def __init__(self):
+        Office.__init__(self, DeskState())
 
     def begin(self, name):
         """Begin a program and return its number."""
@@ -110,9 +177,9 @@ class Desk:
             raise NoProgram("the name of a program is a word")
         if len(self.state.programs) == MOST_PROGRAMS:
             raise TooMany(MOST_PROGRAMS)
-        self.state.last_program += 1
-        self.state.programs[self.state.last_program] = name
-        return self.state.last_program
+        number = self.state.new_number("program")
+        self.state.programs[number] = name
+        return number
 
     def living(self):
         """Return the list of (number, name) of the living programs, ascending."""
@@ -153,27 +220,14 @@ class Desk:
         """Return the tuple of the known makers."""
         return tuple([maker for _, maker in self.state.makers])
 
-    def staying_makers(self, program):
-        """Return the tuple of the makers that stay when a program goes."""
-        return tuple([maker for owner, maker in self.state.makers if owner != program])
-
     def open_document(self, program, form, text):
         """Open a document of a program with the content that the text writes; return its number."""
         self.need_program(program)
-        if not isinstance(form, str) or form not in self.state.forms:
-            raise NoForm("there is no known form of this name")
-        signs = self.state.forms[form]
-        content = read(signs, text)
-        if len(self.state.documents) == MOST_DOCUMENTS:
-            raise TooMany(MOST_DOCUMENTS)
-        self.state.last_document += 1
-        self.state.documents[self.state.last_document] = Document(program, signs, content, (), ())
-        return self.state.last_document
+        return self.new_document(program, list(self.state.forms), form, text)
 
     def open_documents(self):
         """Return the list of (number, program, name of the form) of the open documents, ascending."""
-        documents = self.state.documents
-        return [(number, documents[number].program, documents[number].form[0]) for number in sorted(documents)]
+        return self.document_rows()
 
     def close(self, document):
         """Close a document."""
@@ -186,8 +240,7 @@ class Desk:
 
     def text(self, document):
         """Return the text of a document in its form."""
-        held = self.need_document(document)
-        return write(held.form, held.content)
+        return self.text_of(document)
 
     def edit(self, document, edit):
         """Edit a document."""
@@ -199,9 +252,9 @@ class Desk:
         documents = self.state.documents
         if all([documents[number].content == contents[number] for number in contents]):
             return
-        self.state.last_step += 1
+        step = self.state.new_number("step")
         for number, content in contents.items():
-            documents[number] = with_content(documents[number], self.state.last_step, tuple(contents), content)
+            documents[number] = with_content(documents[number], step, tuple(contents), content)
 
     def undo(self, document):
         """Undo the last edit of a document, and of the other one if it was a move between two."""
@@ -217,11 +270,11 @@ class Desk:
         """Copy what is selected in a document; return the number of the entry."""
         held = self.need_document(document)
         content = selected(held.content, selection)
-        number = self.state.last_entry + 1
+        number = self.state.last["entry"] + 1
         entry = Entry(number, content, held.form[0], offer, self.state.forms, self.known_makers())
         if len(self.state.order) == MOST_ENTRIES:
             self.drop(self.last_unpinned())
-        self.state.last_entry = number
+        self.state.last["entry"] = number
         self.state.entries[number] = Kept(entry, held.program, is_once, False)
         self.state.order.insert(0, number)
         return number
@@ -250,13 +303,6 @@ class Desk:
         self.keep_made(rows, later)
         return text
 
-    def keep_made(self, rows, later):
-        """Keep an entry with what was made of it, and rows of this in the log."""
-        number = later.number
-        self.state.rows.extend([(number, maker, form, features) for maker, form, features in rows])
-        held = self.state.entries[number]
-        self.state.entries[number] = Kept(later, held.program, held.is_once, held.is_pinned)
-
     def log(self):
         """Return the list of (entry, maker, form, set) of what the makers have made, in order."""
         return list(self.state.rows)
@@ -264,37 +310,15 @@ class Desk:
     def end(self, program):
         """End a program; return the list of (entry, form, certificate) of what is made before."""
         self.need_program(program)
-        forms = self.state.forms
-        makers = self.known_makers()
-        staying = self.staying_makers(program)
-        told = []
-        numbers = sorted(self.state.entries)
-        for number in numbers:
-            held = self.state.entries[number]
-            stays_owned = held.program != program
-            pairs = to_make(forms, makers, staying, held.entry, stays_owned)
-            told.extend([(number, form, certificate) for form, certificate in pairs])
-            rows, later = ended(forms, makers, staying, held.entry, stays_owned)
-            self.keep_made(rows, later)
-        self.take_away(program)
+        staying = tuple([maker for owner, maker in self.state.makers if owner != program])
+        told = self.make_before(self.state.forms, self.known_makers(), staying, (program,))
+        self.take_programs((program,))
         return told
 
     def crash(self, program):
         """Let a program crash: nothing is made before."""
         self.need_program(program)
-        numbers = sorted(self.state.entries)
-        for number in numbers:
-            held = self.state.entries[number]
-            self.keep_made((), crashed(held.entry, held.program != program))
-        self.take_away(program)
-
-    def take_away(self, program):
-        """Take away a program with its makers and its documents."""
-        documents = self.state.documents
-        del self.state.programs[program]
-        self.state.makers = [(owner, maker) for owner, maker in self.state.makers if owner != program]
-        self.state.documents = {number: documents[number] for number in documents
-                                if documents[number].program != program}
+        self.take_programs((program,))
 
     def history(self):
         """Return the list of (entry, whether it is pinned, whether it was copied as once), the newest first."""
@@ -357,12 +381,8 @@ class Desk:
 
     def mark(self):
         """Keep the whole state; return the number of the mark."""
-        self.marks.append(self.state.copied())
-        return len(self.marks) - 1
+        return self.new_mark()
 
     def back(self, number):
         """Go back to a mark; later marks are gone."""
-        if not is_integer(number) or not 0 <= number < len(self.marks):
-            raise NoMark("there is no such mark")
-        del self.marks[number + 1:]
-        self.state = self.marks[number].copied()
+        self.back_to(number)

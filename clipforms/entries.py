@@ -1,7 +1,7 @@
 """Entries of the clipboard: what they offer, and the texts that are made when it is asked."""
 
 from clipforms.chains import NAME, SOURCE, TARGET, carrying, common, contains, least_labels, reached
-from clipforms.contents import keep, used
+from clipforms.contents import FEATURES, keep, used
 from clipforms.errors import Gone, NoForm, NotMakable, NotOffered
 from clipforms.forms import carried, write
 from clipforms.makers import best, chain_of
@@ -105,3 +105,16 @@ def rows_along(forms, chain, features):
         left = common(left, carried(forms[maker[TARGET]]))
         rows.append((maker[NAME], maker[TARGET], left))
     return tuple(rows)
+
+
+def worth(features):
+    """Return what grows with a set of features in the order of worth."""
+    return [feature in features for feature in FEATURES]
+
+
+def taken(dues, forms, able):
+    """Return the form that a paste takes of a list, for a document whose form carries the able features."""
+    offered = [form for form in forms if form in dues]
+    if not offered:
+        raise NotOffered("the entry offers none of the forms")
+    return max(offered, key=lambda form: worth(common(dues[form], able)))
