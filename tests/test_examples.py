@@ -126,3 +126,72 @@ class StageEightExamples(unittest.TestCase):
             [begun, [console.execute(line) for line in ("copy 1 lines 0 0 : all", "offered 1", "enter 1 0 0 0 - b : x", "text 1", "ask 1 plain", "log")]],
             [['1', 'ok', 'ok', '1'], ['1', 'plain nothing, star bold', 'ok', '*x*a *b*', 'a b', '1 a plain nothing']],
         )
+
+
+class StageNineExamples(unittest.TestCase):
+    def test_parse_and_format(self):
+        from clipforms.programs import format_program, parse_program
+        text = "form star bold * escape !\n\nmaker a from star to plain cost 2"
+        forms, makers = parse_program(text, [])
+        self.assertEqual(
+            [(forms, makers), format_program(forms, makers)],
+            [((('star', '', '', '*', '', '', '', '', '!'),), (('a', 'star', 'plain', 2),)), 'form star bold * escape !\nmaker a from star to plain cost 2'],
+        )
+
+    def test_problem(self):
+        from clipforms.errors import SyntaxProblem
+        from clipforms.programs import parse_program
+        with self.assertRaises(SyntaxProblem) as caught:
+            parse_program("form star bold *\nform tab cell |", [])
+        self.assertEqual((caught.exception.line, caught.exception.column), (1, 17))
+
+
+class StageTenExamples(unittest.TestCase):
+    def test_asking(self):
+        from clipforms.hall import Hall
+        hall = Hall()
+        ready = [hall.set_up("a"), hall.set_up("b"), hall.link("b", "a", 2)]
+        self.assertEqual(ready, [None] * 3)
+        program = hall.begin("a", "pad", "form star bold * escape !\nmaker m from star to plain cost 1")
+        other = hall.begin("b", "pen", "form star bold * escape !\nmaker m from star to plain cost 5")
+        self.assertEqual(other, 2)
+        entry = hall.copy(hall.open_document(program, "star", "x*y*"), ("lines", 0, 0), None)
+        self.assertEqual(
+            [hall.offered(entry), hall.ask(entry, "b/plain"), hall.log()],
+            [[('a/plain', ()), ('a/star', ('bold',)), ('b/plain', ()), ('b/star', ('bold',))], 'xy', [(1, 'a/m', 'a/plain', ()), (1, 'a>b/plain', 'b/plain', ())]],
+        )
+
+    def test_deeds(self):
+        from clipforms.hall import Hall
+        hall = Hall()
+        ready = [hall.set_up("a"), hall.set_up("b"), hall.link("a", "b", 0)]
+        self.assertEqual(ready, [None] * 3)
+        program = hall.begin("a", "pad", "")
+        entry = hall.copy(hall.open_document(program, "plain", "x"), ("lines", 0, 0), None)
+        self.assertEqual(
+            [hall.unlink("a", "b"), hall.fall("a"), hall.ask(entry, "b/plain"), hall.offered(entry)],
+            [[(1, 'b/plain', (('b/plain',), ('b/plain',)))], None, 'x', [('b/plain', ())]],
+        )
+
+
+class StageElevenExamples(unittest.TestCase):
+    def test_journal(self):
+        from clipforms.journals import first_wrong, format_deed, parse_deed, shortened
+        lines = ["desk a", "keep", "begin a pad : ", "open 1 plain : xy", "back 0", "desk b", "link a b 3"]
+        journal = [parse_deed(line) for line in lines]
+        self.assertEqual(
+            [journal[3], [format_deed(deed) for deed in shortened(journal)], first_wrong(journal), first_wrong(journal + [("end", 1)])],
+            [('open', 1, 'plain', 'xy'), ['desk a', 'keep', 'desk b', 'link a b 3'], None, 7],
+        )
+
+
+class StageTwelveExamples(unittest.TestCase):
+    def test_console(self):
+        from clipforms.hallconsole import HallConsole
+        console = HallConsole()
+        lines = ["desk a", "begin a pad : form star bold * escape !\nmaker m from star to plain cost 1", "open 1 star : x*y*"]
+        begun = [console.execute(line) for line in lines]
+        self.assertEqual(
+            [begun, [console.execute(line) for line in ("copy 1 lines 0 0 : all", "offered 1", "end 1", "log", "deed 2")], len(console.journal())],
+            [['ok', '1', '1'], ['1', 'a/plain nothing, a/star bold', '1 a/plain, 1 a/star', '1 a/m a/plain nothing', 'open 1 star : x*y*'], 5],
+        )

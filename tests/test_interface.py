@@ -5,7 +5,9 @@ import inspect
 import pathlib
 import unittest
 
-from clipforms import console, contents, desk, documents, ends, entries, errors, forms, makers
+from clipforms import (
+    console, contents, desk, documents, ends, entries, errors, forms, hall, hallconsole, journals, makers, programs,
+)
 
 QUESTION = ["forms", "makers", "source", "features", "target"]
 END = ["forms", "makers", "staying", "entry", "stays_owned"]
@@ -33,6 +35,11 @@ FUNCTIONS = {
         "put": ["form", "content", "place", "more"], "moved_within": ["form", "content", "selection", "place"],
         "checked": ["form", "content"],
     },
+    programs: {"parse_program": ["text", "names"], "format_program": ["forms", "makers"]},
+    journals: {
+        "is_deed": ["thing"], "format_deed": ["deed"], "parse_deed": ["line"], "do": ["hall", "deed"],
+        "replay": ["journal"], "shortened": ["journal"], "first_wrong": ["journal"],
+    },
 }
 CLASSES = {
     entries: {"Entry": {"__init__": ["number", "content", "own", "offer", "forms", "makers"]}},
@@ -48,6 +55,16 @@ CLASSES = {
         "drag": ["document", "selection", "target", "place", "is_move"], "mark": [], "back": ["number"],
     }},
     console: {"Console": {"__init__": [], "execute": ["line"]}},
+    hall: {"Hall": {
+        "__init__": [], "set_up": ["name"], "desks": [], "nodes": [], "link": ["one", "other", "cost"], "linked": [],
+        "begin": ["desk", "name", "text"], "living": [], "all_makers": [],
+        "open_document": ["program", "form", "text"], "open_documents": [], "text": ["document"],
+        "edit": ["document", "edit"], "close": ["document"], "copy": ["document", "selection", "offer"],
+        "all_entries": [], "drop": ["entry"], "offered": ["entry"], "can_ask": ["entry"], "ask": ["entry", "node"],
+        "log": [], "end": ["program"], "unlink": ["one", "other"], "clear": ["desk"], "crash": ["program"],
+        "cut": ["one", "other"], "fall": ["desk"], "mark": [], "back": ["number"],
+    }},
+    hallconsole: {"HallConsole": {"__init__": [], "execute": ["line"], "journal": []}},
 }
 ERRORS = {
     "SyntaxProblem": ["line", "column"], "NotCarried": ["feature"], "NotMakable": ["form", "closed"],
