@@ -45,7 +45,7 @@ class Words:
     def __init__(self, head, text):
         self.words = head.split(" ")
         self.at = 0
-        self.text = text
+        self.tail = text
 
     def take(self, kind):
         """Take an argument of a kind."""
@@ -118,17 +118,17 @@ class Words:
 
     def take_text(self):
         """Take all behind the words."""
-        return self.text
+        return self.tail
 
     def take_characters(self):
         """Take all behind the words, characters alone."""
-        if not is_characters(self.text):
+        if not is_characters(self.tail):
             raise InvalidCommand("not one or more characters")
-        return self.text
+        return self.tail
 
     def take_forms(self):
         """Take different names of forms, a tuple."""
-        words = self.text.split(" ")
+        words = self.tail.split(" ")
         if "" in words or len(set(words)) < len(words):
             raise InvalidCommand("no different names of forms")
         return tuple(words)

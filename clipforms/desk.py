@@ -104,7 +104,7 @@ class Office:
 
     def new_document(self, program, names, form, text):
         """Open a document of a program, in a form of these names, with what the text writes; return its number."""
-        if not isinstance(form, str) or form not in names:
+        if form not in names:
             raise NoForm("there is no known form of this name")
         signs = self.state.forms[form]
         content = read(signs, text)

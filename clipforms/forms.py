@@ -151,7 +151,7 @@ class CellsReader:
         self.column = column
         self.cells = []
         self.pieces = []
-        self.link = ""
+        self.link_word = ""
         self.bold = False
         self.slant = False
         # The word that has begun and is not ended yet; None outside of a word.
@@ -187,7 +187,7 @@ class CellsReader:
     def take_in_word(self, character):
         """Take a character of a word, or the middle sign that ends it."""
         if character == self.form[MIDDLE] and self.word != "":
-            self.link = self.word
+            self.link_word = self.word
             self.word = None
         elif character in WORD_CHARACTERS and len(self.word) < MOST_WORD_CHARACTERS:
             self.word += character
@@ -202,10 +202,10 @@ class CellsReader:
             self.bold = not self.bold
         elif character == self.form[SLANT]:
             self.slant = not self.slant
-        elif character == self.form[OPENING] and self.link == "":
+        elif character == self.form[OPENING] and self.link_word == "":
             self.word = ""
-        elif character == self.form[END] and self.link != "":
-            self.link = ""
+        elif character == self.form[END] and self.link_word != "":
+            self.link_word = ""
         elif character == self.form[ESCAPE]:
             # A character too many is a problem at its escape sign already.
             self.need_room()
@@ -221,7 +221,7 @@ class CellsReader:
 
     def end_cell(self):
         """End a cell: no mark may be on."""
-        if (self.link, self.bold, self.slant) != NO_MARKS:
+        if (self.link_word, self.bold, self.slant) != NO_MARKS:
             self.refuse()
         self.cells.append(merged(self.pieces))
         self.pieces = []
@@ -235,7 +235,7 @@ class CellsReader:
 
     def put(self, character):
         """Put a character with the marks that are on into the cell, as a piece of its own."""
-        self.pieces.append((character, (self.link, self.bold, self.slant)))
+        self.pieces.append((character, (self.link_word, self.bold, self.slant)))
 
     def finished(self):
         """Return the cells, when the whole line is taken."""

@@ -23,7 +23,7 @@ class HallState(State):
     def __init__(self):
         State.__init__(self)
         # The names of the forms that each desk knows; the signs of a name never change.
-        self.desks = {}
+        self.known = {}
         # The costs of the links, each under its two desks, the lesser one first.
         self.links = {}
 
@@ -31,7 +31,7 @@ class HallState(State):
         """Return a state like this one, which does not change with it."""
         other = HallState()
         self.copy_to(other)
-        other.desks = dict(self.desks)
+        other.known = dict(self.known)
         other.links = {pair: self.links[pair] for pair in self.links}
         return other
 
@@ -51,12 +51,12 @@ def pair_of(one, other):
     return (min(one, other), max(one, other))
 
 
-def carriages(desks, links):
-    """Return the list of the carriages of links, ascending."""
+def carriages(known, links):
+    """Return the list of the carriages of links, ascending; known has the forms that each desk knows."""
     makers = []
     for (one, other), cost in links.items():
-        for form in desks[one]:
-            if form in desks[other]:
+        for form in known[one]:
+            if form in known[other]:
                 makers.append((f"{one}>{other}/{form}", node_of(one, form), node_of(other, form), cost))
                 makers.append((f"{other}>{one}/{form}", node_of(other, form), node_of(one, form), cost))
     return sorted(makers)
@@ -88,7 +88,7 @@ class Hall(Office):
 
     def need_desk(self, desk):
         """Raise NoDesk if any object is not the name of a desk."""
-        if not is_name(self.state.desks, desk):
+        if not is_name(self.state.known, desk):
             raise NoDesk("there is no such desk")
 
     def need_link(self, one, other):
@@ -104,15 +104,15 @@ class Hall(Office):
         """Set up a desk."""
         if not is_word(name):
             raise NoDesk("the name of a desk is a word")
-        if name in self.state.desks:
+        if name in self.state.known:
             raise NameTaken(f"there is a desk {name}")
-        if len(self.state.desks) == MOST_DESKS:
+        if len(self.state.known) == MOST_DESKS:
             raise TooMany(MOST_DESKS)
-        self.state.desks[name] = (PLAIN[0],)
+        self.state.known[name] = (PLAIN[0],)
 
     def desks(self):
         """Return the list of the names of the desks, ascending."""
-        return sorted(self.state.desks)
+        return sorted(self.state.known)
 
     def nodes(self):
         """Return the list of all nodes, ascending."""
@@ -121,7 +121,7 @@ class Hall(Office):
     def node_forms(self):
         """Return a dict from all nodes to their forms."""
         forms = self.state.forms
-        return {node_of(desk, name): forms[name] for desk, names in self.state.desks.items() for name in names}
+        return {node_of(desk, name): forms[name] for desk, names in self.state.known.items() for name in names}
 
     def link(self, one, other, cost):
         """Link two desks."""
@@ -146,10 +146,10 @@ class Hall(Office):
         if not is_word(name):
             raise NoProgram("the name of a program is a word")
         state = self.state
-        forms, makers = parse_program(text, list(state.desks[desk]))
+        forms, makers = parse_program(text, list(state.known[desk]))
         rows = [placed(desk, maker) for maker in makers]
         self.need_free_names(forms, rows)
-        known = (*state.desks[desk], *[form[0] for form in forms if form[0] not in state.desks[desk]])
+        known = (*state.known[desk], *[form[0] for form in forms if form[0] not in state.known[desk]])
         if len(known) > MOST_DESK_FORMS:
             raise TooMany(MOST_DESK_FORMS)
         if len(state.makers) + len(rows) > MOST_HALL_MAKERS:
@@ -158,7 +158,7 @@ class Hall(Office):
             raise TooMany(MOST_PROGRAMS)
         number = state.new_number("program")
         state.programs[number] = (desk, name)
-        state.desks[desk] = known
+        state.known[desk] = known
         state.forms.update({form[0]: form for form in forms})
         state.makers.extend([(number, maker) for maker in rows])
         return number
@@ -186,12 +186,12 @@ class Hall(Office):
         state = self.state
         makers = [maker for program, maker in state.makers if program not in programs]
         links = {pair: cost for pair, cost in state.links.items() if pair not in pairs}
-        return makers + carriages(state.desks, links)
+        return makers + carriages(state.known, links)
 
     def open_document(self, program, form, text):
         """Open a document of a program with the content that the text writes; return its number."""
         self.need_program(program)
-        return self.new_document(program, self.state.desks[self.desk_of(program)], form, text)
+        return self.new_document(program, self.state.known[self.desk_of(program)], form, text)
 
     def desk_of(self, program):
         """Return the desk of a program."""
@@ -326,7 +326,7 @@ class Hall(Office):
         self.take_links(self.links_of(desk))
         for held in list(self.state.entries.values()):
             self.keep_made((), texts_less(held.entry, desk))
-        del self.state.desks[desk]
+        del self.state.known[desk]
 
     def mark(self):
         """Keep all of the hall; return the number of the mark."""

@@ -94,11 +94,9 @@ def is_edit(thing):
 
 def is_mark(feature, value):
     """Return whether any two objects are a feature of marks and a value of it."""
-    if not isinstance(feature, str) or feature not in ("link", "bold", "slant"):
-        return False
     if feature == "link":
         return value == "" or is_word(value)
-    return isinstance(value, bool)
+    return feature in ("bold", "slant") and isinstance(value, bool)
 
 
 def format_deed(deed):
