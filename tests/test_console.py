@@ -119,7 +119,8 @@ class Answers(Case):
         self.refuse(Gone, "ask 1 full", "ask 1 plain")
 
     def test_nothing_can_be_asked(self):
-        self.check(("copy 1 lines 0 0 : full", "1"), ("crash 1", "ok"), ("can 1", ""), ("offered 1", "full cells+nest+bold+slant"))
+        self.check(("copy 1 lines 0 0 : full", "1"), ("crash 1", "ok"), ("can 1", ""),
+                   ("offered 1", "full cells+nest+bold+slant"))
 
     def test_pastes(self):
         self.check(
@@ -140,12 +141,14 @@ class Answers(Case):
         self.check(
             ("close 1", "ok"), ("documents", "2 1 plain"), ("open 1 star : ", "3"), ("text 3", ""),
             ("open 1 plain :  : ", "4"), ("text 4", " : "), ("open 1 plain : a\nb\n", "5"), ("text 5", "a\nb\n"),
-            ("open 1 plain :  ", "6"), ("text 6", " "), ("documents", "2 1 plain, 3 1 star, 4 1 plain, 5 1 plain, 6 1 plain"),
+            ("open 1 plain :  ", "6"), ("text 6", " "),
+            ("documents", "2 1 plain, 3 1 star, 4 1 plain, 5 1 plain, 6 1 plain"),
         )
 
     def test_marks(self):
         self.check(
-            ("keep", "0"), ("keep", "1"), ("begin pen", "2"), ("close 1", "ok"), ("back 1", "ok"), ("programs", "1 pad"),
+            ("keep", "0"), ("keep", "1"), ("begin pen", "2"), ("close 1", "ok"), ("back 1", "ok"),
+            ("programs", "1 pad"),
             ("documents", "1 1 full, 2 1 plain"), ("keep", "2"), ("back 0", "ok"), ("keep", "1"),
         )
         self.refuse(NoMark, "back 2", "back 999999999")
@@ -174,7 +177,8 @@ class DeskErrors(Case):
 
     def test_names(self):
         self.refuse(NoProgram, "begin Pad", "begin a-b", "begin abcdefghijklm", "begin a\nb", "begin :", "begin a\tb")
-        self.refuse(NoForm, "bring 1 Star none none * none none none none !", "bring 1 s none none ** none none none none !",
+        self.refuse(NoForm, "bring 1 Star none none * none none none none !",
+                    "bring 1 s none none ** none none none none !",
                     "bring 1 s none none a none none none none !", "bring 1 s none none * none none none none none",
                     "bring 1 s none none * none : none none !", "bring 1 s * none * none none none none !",
                     "bring 1 s - - * - - - - !", "open 1 dot : *", "open 1 Full : *", "copy 1 lines 0 0 : full dot",
@@ -241,7 +245,8 @@ class Invalid(Case):
                     self.assertEqual(line, "redo 1")
 
     def test_words(self):
-        self.refuse("", " ", "  ", ":", " : ", "\n", "\t", "Begin pad", "begin\tpad", "begin\npad", "begins pad", "insert 1 0",
+        self.refuse("", " ", "  ", ":", " : ", "\n", "\t", "Begin pad", "begin\tpad", "begin\npad", "begins pad",
+                    "insert 1 0",
                     "insert 1 0 : x", "quit", "0", "1", "mark", "to", "all", "none", "keep\n", "log\t", "copytwice 1",
                     " begin pad", " log")
 
@@ -285,18 +290,22 @@ class Invalid(Case):
             Case.refuse(self, error, line)
 
     def test_edits(self):
-        self.refuse("enter 1 0 0 0 - - : ", "enter 1 0 0 0 - - : a\nb", "enter 1 0 0 0 - - : \t", "enter 1 0 0 0 - - : \n",
+        self.refuse("enter 1 0 0 0 - - : ", "enter 1 0 0 0 - - : a\nb", "enter 1 0 0 0 - - : \t",
+                    "enter 1 0 0 0 - - : \n",
                     "enter 1 0 0 0 - sb : x", "enter 1 0 0 0 - B : x", "enter 1 0 0 0 - bb : x", "enter 1 0 0 0 - : x",
                     "enter 1 0 0 0 W - : x", "enter 1 0 0 0 w-1 - : x", "enter 1 0 0 0 abcdefghijklm - : x",
                     "enter 1 0 0 0 -- - : x", "enter 1 0 0 0 - - x", "enter 1 0 0 0 - - :x")
-        self.refuse("mark 1 0 0 0 1 link W", "mark 1 0 0 0 1 link", "mark 1 0 0 0 1 link abcdefghijklm", "mark 1 0 0 0 1 bold -",
-                    "mark 1 0 0 0 1 bold True", "mark 1 0 0 0 1 slant Yes", "mark 1 0 0 0 1 slant w", "mark 1 0 0 0 1 cells yes",
+        self.refuse("mark 1 0 0 0 1 link W", "mark 1 0 0 0 1 link", "mark 1 0 0 0 1 link abcdefghijklm",
+                    "mark 1 0 0 0 1 bold -",
+                    "mark 1 0 0 0 1 bold True", "mark 1 0 0 0 1 slant Yes", "mark 1 0 0 0 1 slant w",
+                    "mark 1 0 0 0 1 cells yes",
                     "mark 1 0 0 0 1 nest no", "mark 1 0 0 0 1 Link w", "mark 1 0 0 0 1 bold yes no")
 
     def test_copies_pastes_and_drags(self):
         self.refuse("copy 1 lines 0 0 : ", "copy 1 lines 0 0 : star star", "copy 1 lines 0 0 : star  plain",
                     "copy 1 lines 0 0 :  star", "copy 1 lines 0 0 : star ", "copy 1 lines 0 0 : all all",
-                    "copy 1 line 0 0 : all", "copy 1 range 0 0 : all", "copy 1 lines 0 0 0 1 : all", "copy 1 Lines 0 0 : all",
+                    "copy 1 line 0 0 : all", "copy 1 range 0 0 : all", "copy 1 lines 0 0 0 1 : all",
+                    "copy 1 Lines 0 0 : all",
                     "copy 1 all : all", "copyonce 1 lines 0 0 : ", "copyonce 1 lines 0 0 : plain star plain")
         self.refuse("paste 1 1 0 0 0 : ", "paste 1 1 0 0 0 : star star", "paste 1 1 0 0 0 :  ", "paste 1 1 0 0 : star",
                     "paste 1 1 0 0 0 star")
@@ -310,5 +319,6 @@ class Invalid(Case):
                     "bring 1 s none none * none none none none ! : x", "bring s none none * none none none none !")
 
     def test_what_is_no_command_is_refused_ahead_of_all_else(self):
-        self.refuse("erase 99 0 0 0 x", "open 99 star", "end 99 99", "ask 99", "back 99 0", "paste 99 99 99 99 99 : a a",
+        self.refuse("erase 99 0 0 0 x", "open 99 star", "end 99 99", "ask 99", "back 99 0",
+                    "paste 99 99 99 99 99 : a a",
                     "enter 99 0 0 0 - - : ", "drag 99 lines 0 0 to 99 0 0", "text x", "begin Pad pad")

@@ -194,8 +194,11 @@ class Account:
 
     def paste(self, number, forms, document, place):
         entry, (_, able, content) = self.entry(number), self.document(document)
-        ranks = [([feature not in entry.dues[form] or feature not in carried(able) for feature in ALL_FEATURES], at, form)
-                 for at, form in enumerate(forms) if form in entry.dues]
+        ranks = []
+        for at, form in enumerate(forms):
+            if form in entry.dues:
+                kept = [feature in entry.dues[form] and feature in carried(able) for feature in ALL_FEATURES]
+                ranks.append(([not keeps for keeps in kept], at, form))
         if not ranks:
             raise NotOffered("")
         form = min(ranks)[2]
@@ -291,8 +294,8 @@ class Chooser(random.Random):
         maker = (self.choice("abcdefgh"), self.choice(names), self.choice(names), self.randint(0, 3))
         word = self.choice(
             ["begin", "bring", "supply", "supply", "supply", "open_document", "open_document", "close", "end", "crash"]
-            + ["edit"] * 6 + ["undo"] * 4 + ["redo"] * 4 + ["copy"] * 5 + ["ask"] * 5 + ["front", "pin", "unpin", "drop"]
-            + ["paste"] * 3 + ["drag"] * 4 + ["mark", "back"]
+            + ["edit"] * 6 + ["undo"] * 4 + ["redo"] * 4 + ["copy"] * 5 + ["ask"] * 5
+            + ["front", "pin", "unpin", "drop"] + ["paste"] * 3 + ["drag"] * 4 + ["mark", "back"]
         )
         return (word, *{
             "begin": ("pad",), "bring": (program, self.choice(sorted(FORMS.values()))), "supply": (program, maker),

@@ -324,7 +324,8 @@ class Runs(unittest.TestCase):
             with self.subTest(seed):
                 for key, many in self.run_calls(seed, 160).items():
                     done[key] = done.get(key, 0) + many
-        for word in ("set_up", "link", "begin", "copy", "ask", "end", "crash", "unlink", "cut", "clear", "fall", "back"):
+        for word in ("set_up", "link", "begin", "copy", "ask", "end", "crash", "unlink", "cut", "clear", "fall",
+                     "back"):
             self.assertGreater(done[word, "done"], 20, word)
         self.assertGreater(done["ask", "refused"], 5)
 

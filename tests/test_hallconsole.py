@@ -18,7 +18,8 @@ READY = [
     "begin b pen : form star bold * escape !", "open 1 full : >a*b*|c\nd", "open 2 star : x",
 ]
 QUESTIONS = [
-    "text 1", "offered 1", "can 1", "desks", "nodes", "entries", "links", "programs", "makers", "documents", "log", "deed 0",
+    "text 1", "offered 1", "can 1", "desks", "nodes", "entries", "links", "programs", "makers", "documents", "log",
+    "deed 0",
 ]
 
 
@@ -54,7 +55,8 @@ class Answers(Case):
 
     def test_lists(self):
         self.check(
-            ("desks", "a, b"), ("nodes", "a/full, a/plain, a/star, b/plain, b/star"), ("entries", ""), ("links", "a b 2"),
+            ("desks", "a, b"), ("nodes", "a/full, a/plain, a/star, b/plain, b/star"), ("entries", ""),
+            ("links", "a b 2"),
             ("programs", "1 a pad, 2 b pen"), ("documents", "1 1 full, 2 2 star"), ("log", ""), ("makers",
              "a/m a/full a/star 1, a/n a/star a/plain 1, a>b/plain a/plain b/plain 2, a>b/star a/star b/star 2, "
              "b>a/plain b/plain a/plain 2, b>a/star b/star a/star 2"),
@@ -71,7 +73,8 @@ class Answers(Case):
             ("enter 1 0 1 1 - b :  : ", "ok"), ("text 1", ">a*b*|c* : *\nd"), ("mark 1 0 1 1 4 bold no", "ok"),
             ("erase 1 0 0 0 1", "ok"), ("text 1", ">*b*|c : \nd"), ("cut 1 0 0 1", "ok"), ("glue 1 1", "ok"),
             ("text 1", ">*b*\n>|c : d"), ("depth 1 0 0", "ok"), ("widen 1 0 1", "ok"), ("narrow 1 1 0", "ok"),
-            ("text 1", "*b*|\n>c : d"), ("delete 1 0 0", "ok"), ("text 1", ">c : d"), ("delete 1 0 0", "ok"), ("text 1", ""),
+            ("text 1", "*b*|\n>c : d"), ("delete 1 0 0", "ok"), ("text 1", ">c : d"), ("delete 1 0 0", "ok"),
+            ("text 1", ""),
         )
 
     def test_what_is_made_before(self):
@@ -79,13 +82,15 @@ class Answers(Case):
             ("copy 1 lines 0 1 : all", "1"), ("copy 1 lines 1 1 : b/plain", "2"), ("keep", "0"),
             ("end 1", "1 a/full, 1 a/plain, 1 a/star, 2 b/plain"), ("programs", "2 b pen"), ("back 0", "ok"),
             ("unlink a b", "1 b/plain, 1 b/star, 2 b/plain"), ("links", ""), ("back 0", "ok"),
-            ("clear a", "1 b/plain, 1 b/star, 2 b/plain"), ("can 1", "b/plain, b/star"), ("desks", "b"), ("end 2", "nothing"),
+            ("clear a", "1 b/plain, 1 b/star, 2 b/plain"), ("can 1", "b/plain, b/star"), ("desks", "b"),
+            ("end 2", "nothing"),
             ("clear b", "nothing"), ("offered 1", ""), ("can 1", ""), ("entries", "1, 2"), ("desks", ""),
         )
 
     def test_where_nothing_is_made(self):
         self.check(
-            ("copy 1 lines 0 1 : all", "1"), ("keep", "0"), ("crash 1", "ok"), ("can 1", ""), ("back 0", "ok"), ("cut a b", "ok"),
+            ("copy 1 lines 0 1 : all", "1"), ("keep", "0"), ("crash 1", "ok"), ("can 1", ""), ("back 0", "ok"),
+            ("cut a b", "ok"),
             ("can 1", "a/full, a/plain, a/star"), ("link a b 0", "ok"), ("fall a", "ok"), ("can 1", ""),
             ("offered 1", "b/plain nothing, b/star bold"), ("log", ""),
         )
@@ -93,17 +98,20 @@ class Answers(Case):
 
     def test_close_drop_and_marks(self):
         self.check(
-            ("keep", "0"), ("copy 2 lines 0 0 : all", "1"), ("close 2", "ok"), ("documents", "1 1 full"), ("drop 1", "ok"),
+            ("keep", "0"), ("copy 2 lines 0 0 : all", "1"), ("close 2", "ok"), ("documents", "1 1 full"),
+            ("drop 1", "ok"),
             ("entries", ""), ("keep", "1"), ("back 0", "ok"), ("documents", "1 1 full, 2 2 star"), ("keep", "1"),
         )
 
     def test_all_other_deeds(self):
-        self.check(("open 2 plain : ", "3"), ("begin b 0 : ", "3"), ("desk c", "ok"), ("link c a 1000", "ok"), ("cut a c", "ok"))
+        self.check(("open 2 plain : ", "3"), ("begin b 0 : ", "3"), ("desk c", "ok"), ("link c a 1000", "ok"),
+                   ("cut a c", "ok"))
 
     def test_what_the_hall_raises(self):
         self.check(("copy 1 lines 0 1 : a/plain", "1"), ("open 1 plain : " + "x" * 491, "3"))
         self.refuse(NoDesk, "desk a/b", "begin c pad : ", "link a c 1", "unlink c a", "cut a/b a", "clear c", "fall c")
-        self.refuse(NameTaken, "desk a", "link a b 3", "begin b x : form full", "begin a x : form q\nmaker m from q to plain cost 1")
+        self.refuse(NameTaken, "desk a", "link a b 3", "begin b x : form full",
+                    "begin a x : form q\nmaker m from q to plain cost 1")
         self.refuse(NoLink, "link a a 1", "unlink a a", "cut b b")
         self.refuse(NoProgram, "begin a a/b : ", "end 3", "crash 0", "open 9 x : \t")
         self.refuse(SyntaxProblem, "begin a pad : x", "open 1 plain : \t")
@@ -157,8 +165,10 @@ class Invalid(Case):
         super().refuse(InvalidCommand, *lines)
 
     def test_words(self):
-        self.refuse("", " ", "\n", ":", "Desk c", "insert 1 0", "undo 1", "redo 1", "history", "living", "mark", "paste 1", "edit 1",
-                    "bring 1", "supply 1", "desks ", " desks", "desks 1", "desks : ", "log : x", "nodes\n", "front 1", "entry 1")
+        self.refuse("", " ", "\n", ":", "Desk c", "insert 1 0", "undo 1", "redo 1", "history", "living", "mark",
+                    "paste 1", "edit 1",
+                    "bring 1", "supply 1", "desks ", " desks", "desks 1", "desks : ", "log : x", "nodes\n", "front 1",
+                    "entry 1")
 
     def test_questions(self):
         for line in QUESTIONS:
@@ -179,5 +189,6 @@ class Invalid(Case):
             self.assertEqual(format_deed(parse_deed(line)), line)
 
     def test_what_is_no_command_is_refused_ahead_of_all_else(self):
-        self.refuse("begin z Pad : ", "link z z 01", "erase 9 9 9 9 x", "copy 9 lines 9 9 : a a", "ask 99 A", "enter 9 9 9 9 - - : ",
+        self.refuse("begin z Pad : ", "link z z 01", "erase 9 9 9 9 x", "copy 9 lines 9 9 : a a", "ask 99 A",
+                    "enter 9 9 9 9 - - : ",
                     "end x", "back -1", "deed 99", "cut a b c", "open 9 none")

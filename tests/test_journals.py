@@ -28,7 +28,8 @@ LINES = {
     ("edit", 0, ("enter", 0, 0, 0, "ab", BOLD)): "enter 0 0 0 0 - b : ab",
     ("edit", 0, ("enter", 0, 0, 0, "ab", SLANT)): "enter 0 0 0 0 - s : ab",
     ("edit", 0, ("enter", 0, 0, 0, "ab", LINK)): "enter 0 0 0 0 w1 - : ab",
-    ("edit", 3, ("erase", 0, 1, 2, 3)): "erase 3 0 1 2 3", ("edit", 3, ("erase", MOST, 0, 0, MOST)): f"erase 3 {MOST} 0 0 {MOST}",
+    ("edit", 3, ("erase", 0, 1, 2, 3)): "erase 3 0 1 2 3",
+    ("edit", 3, ("erase", MOST, 0, 0, MOST)): f"erase 3 {MOST} 0 0 {MOST}",
     ("edit", 3, ("mark", 0, 1, 2, 3, "bold", True)): "mark 3 0 1 2 3 bold yes",
     ("edit", 3, ("mark", 0, 1, 2, 3, "slant", False)): "mark 3 0 1 2 3 slant no",
     ("edit", 3, ("mark", 0, 1, 2, 3, "link", "")): "mark 3 0 1 2 3 link -",
@@ -68,8 +69,9 @@ def is_part(kind, part):
     if kind == "t":
         return type(part) is str
     if kind == "o":
-        return part is None or (type(part) is tuple and part and part != ("all",) and all(is_part("n", one) for one in part)
-                                and len(set(part)) == len(part))
+        if type(part) is not tuple or part in ((), ("all",)):
+            return part is None
+        return all(is_part("n", one) for one in part) and len(set(part)) == len(part)
     if not isinstance(part, tuple) or not part or not isinstance(part[0], str):
         return False
     many = {"lines": 2, "range": 4} if kind == "s" else {
@@ -107,12 +109,15 @@ class Deeds(unittest.TestCase):
 
     def test_other_objects(self):
         for thing in objects_of_all_kinds() + [
-            ("keep", 1), ("keep", ()), (("keep",),), ["keep"], "keep", ("Keep",), ("insert", 1, 0), ("text", 1), ("edit", 1),
+            ("keep", 1), ("keep", ()), (("keep",),), ["keep"], "keep", ("Keep",), ("insert", 1, 0), ("text", 1),
+            ("edit", 1),
             ("edit", 1, ()), ("edit", 1, ("insert", 0, ())), ("edit", 1, ("insert", 0, ((0, ((),)),))), ("mark", 1),
             ("edit", 1, ("keep",)), ("edit", ("glue", 0)), ("edit", 1, "glue"), ("edit", 1, ["glue", 0]), ("undo", 1),
             ("copy", 1, ("lines", 0, 0), ()), ("copy", 1, ("lines", 0, 0), ("all",)), ("copy", 1, ("lines", 0, 0)),
-            ("copy", 1, ("lines", 0, 0), ("a", "a")), ("copy", 1, ("lines", 0, 0), ["a"]), ("copy", 1, ("lines", 0, 0), "a"),
-            ("copy", 1, ("line", 0, 0), None), ("copy", 1, ["lines", 0, 0], None), ("copy", 1, ("range", 0, 0, 0), None),
+            ("copy", 1, ("lines", 0, 0), ("a", "a")), ("copy", 1, ("lines", 0, 0), ["a"]),
+            ("copy", 1, ("lines", 0, 0), "a"),
+            ("copy", 1, ("line", 0, 0), None), ("copy", 1, ["lines", 0, 0], None),
+            ("copy", 1, ("range", 0, 0, 0), None),
             ("copy", 1, (["lines"], 0, 0), None), ("copy", 1, ("lines", 0, 0), (["a"],)), ("copy", 1, None, None),
             ("edit", 1, (["glue"], 0)), ("edit", 1, ({}, 0)), ({}, 1), (None,), (1, 2), ("edit", 1, ("cut", "a", "b")),
             ("desk", nested(29, lambda part: (part,))), ("ask", 1, None), ("begin", "a", "pad", None),
@@ -148,8 +153,10 @@ class Deeds(unittest.TestCase):
             (("edit", 1, ("enter", 0, 0, 0, "x", ("", 1, True))), False),
             (("edit", 1, ("mark", 0, 0, 0, 1, "link", "a" * 12)), True),
             (("edit", 1, ("mark", 0, 0, 0, 1, "link", "a" * 13)), False),
-            (("edit", 1, ("mark", 0, 0, 0, 1, "link", True)), False), (("edit", 1, ("mark", 0, 0, 0, 1, "bold", 1)), False),
-            (("edit", 1, ("mark", 0, 0, 0, 1, "bold", "yes")), False), (("edit", 1, ("mark", 0, 0, 0, 1, "cells", True)), False),
+            (("edit", 1, ("mark", 0, 0, 0, 1, "link", True)), False),
+            (("edit", 1, ("mark", 0, 0, 0, 1, "bold", 1)), False),
+            (("edit", 1, ("mark", 0, 0, 0, 1, "bold", "yes")), False),
+            (("edit", 1, ("mark", 0, 0, 0, 1, "cells", True)), False),
         ]:
             with self.subTest(repr(thing)[:60]):
                 self.assertIs(is_deed(thing), wanted)
@@ -167,7 +174,8 @@ class Lines(unittest.TestCase):
         self.refuse("cut", "cut a", "cut 1 2 3", "cut a b c d", "cut 1 2 3 4 5", "cut  1 2", "cut 1 2 3 ", "cut a B")
 
     def test_words(self):
-        self.refuse("", " ", ":", "edit 1 glue 0", "edit", "insert 1 0", "undo 1", "text 1", "offered 1", "desks", "Keep",
+        self.refuse("", " ", ":", "edit 1 glue 0", "edit", "insert 1 0", "undo 1", "text 1", "offered 1", "desks",
+                    "Keep",
                     "keep ", " keep", "keep 1", "keep : ", "mark 1", "deed 0", "log", "paste 1", "keep\n")
 
     def test_a_part_left_out_put_in_or_twice(self):
@@ -197,14 +205,17 @@ class Lines(unittest.TestCase):
                     for other in ("00", "01", "x", "-1", "+1", "1000000000", "0000000001", "1_0", "1\n", ""):
                         self.refuse(" ".join(words[:at] + [other] + words[at + 1:]) + parting + text)
         for name in ("A", "a-b", "a" * 41, "a\n", "a\tb", ":", "a>b"):
-            self.refuse(f"desk {name}", f"link {name} b 1", f"link b {name} 1", f"begin {name} pad : ", f"begin a {name} : ",
+            self.refuse(f"desk {name}", f"link {name} b 1", f"link b {name} 1", f"begin {name} pad : ",
+                        f"begin a {name} : ",
                         f"open 1 {name} : ", f"copy 1 lines 0 0 : a {name}", f"ask 1 {name}", f"unlink a {name}",
                         f"cut {name} a", f"clear {name}", f"fall {name}")
 
     def test_texts_and_offers(self):
-        self.refuse("enter 1 0 0 0 - - : ", "enter 1 0 0 0 - - : a\nb", "enter 1 0 0 0 - - : \t", "enter 1 0 0 0 - sb : x",
+        self.refuse("enter 1 0 0 0 - - : ", "enter 1 0 0 0 - - : a\nb", "enter 1 0 0 0 - - : \t",
+                    "enter 1 0 0 0 - sb : x",
                     "enter 1 0 0 0 A - : x", "mark 1 0 0 0 1 bold -", "mark 1 0 0 0 1 link A", "mark 1 0 0 0 1 nest no",
-                    "copy 1 lines 0 0 : ", "copy 1 lines 0 0 : a a", "copy 1 lines 0 0 : a  b", "copy 1 lines 0 0 : all all",
+                    "copy 1 lines 0 0 : ", "copy 1 lines 0 0 : a a", "copy 1 lines 0 0 : a  b",
+                    "copy 1 lines 0 0 : all all",
                     "copy 1 lines 0 : all", "copy 1 range 0 0 : all", "copy 1 rows 0 0 : all", "copy 1 : all")
         self.assertEqual(parse_deed("begin a b : x : y\n")[3], "x : y\n")
         self.assertEqual(parse_deed("open 1 a :  ")[3], " ")
@@ -226,7 +237,8 @@ class Doing(unittest.TestCase):
             (("ask", 1, "b/plain"), "x\ny"), (("keep",), 1), (("close", 1), None), (("drop", 2), None),
             (("end", 1), [(1, "a/star", (("a/star",), ("a/star",)))]), (("unlink", "a", "b"), []),
             (("crash", 2), None), (("link", "a", "b", 1), None), (("cut", "b", "a"), None), (("clear", "b"), []),
-            (("fall", "a"), None), (("back", 1), None), (("clear", "a"), [(2, "b/plain", (("b/plain",), ("b/plain",)))]),
+            (("fall", "a"), None), (("back", 1), None),
+            (("clear", "a"), [(2, "b/plain", (("b/plain",), ("b/plain",)))]),
             (("back", 0), None),
         ]
         for deed, wanted in rows:
@@ -240,14 +252,19 @@ class Doing(unittest.TestCase):
             ("copy", 1, ("lines", 0, 0), None),
         ])
         for deed, error in [
-            (("desk", "a/b"), NoDesk), (("desk", "a"), NameTaken), (("link", "a", "c", 1), NoDesk), (("link", "a", "a", 1), NoLink),
-            (("link", "a", "b", 1001), NoLink), (("begin", "c", "pad", ""), NoDesk), (("begin", "a", "a/b", ""), NoProgram),
+            (("desk", "a/b"), NoDesk), (("desk", "a"), NameTaken), (("link", "a", "c", 1), NoDesk),
+            (("link", "a", "a", 1), NoLink),
+            (("link", "a", "b", 1001), NoLink), (("begin", "c", "pad", ""), NoDesk),
+            (("begin", "a", "a/b", ""), NoProgram),
             (("begin", "a", "pad", "x"), SyntaxProblem), (("begin", "b", "pad", "form star"), NameTaken),
-            (("open", 2, "plain", ""), NoProgram), (("open", 1, "a/plain", ""), NoForm), (("open", 1, "plain", "\t"), SyntaxProblem),
-            (("edit", 2, ("glue", 0)), NoDocument), (("edit", 1, ("glue", 0)), NoPlace), (("edit", 1, ("depth", 0, MOST)), TooLarge),
+            (("open", 2, "plain", ""), NoProgram), (("open", 1, "a/plain", ""), NoForm),
+            (("open", 1, "plain", "\t"), SyntaxProblem),
+            (("edit", 2, ("glue", 0)), NoDocument), (("edit", 1, ("glue", 0)), NoPlace),
+            (("edit", 1, ("depth", 0, MOST)), TooLarge),
             (("edit", 1, ("erase", 0, 0, 1, 1)), NoPlace), (("copy", 1, ("lines", 0, MOST), None), NoPlace),
             (("copy", 1, ("lines", 0, 0), ("plain",)), NoForm), (("copy", 1, ("lines", 0, 0), ("a/star",)), NotMakable),
-            (("ask", 2, "a/plain"), NoEntry), (("ask", 1, "plain"), NotOffered), (("close", 2), NoDocument), (("drop", 0), NoEntry),
+            (("ask", 2, "a/plain"), NoEntry), (("ask", 1, "plain"), NotOffered), (("close", 2), NoDocument),
+            (("drop", 0), NoEntry),
             (("end", 9), NoProgram), (("crash", 0), NoProgram), (("back", 0), NoMark), (("unlink", "a", "b"), NoLink),
             (("cut", "a", "c"), NoDesk), (("clear", "c"), NoDesk), (("fall", "a/b"), NoDesk),
         ]:
@@ -343,8 +360,10 @@ class Journals(unittest.TestCase):
             chooser = random.Random(len(journal))
             for step in range(12):
                 deed = chooser.choice([
-                    ("keep",), ("desk", chooser.choice("abcd")), ("begin", "a", "pad", ""), ("back", chooser.randint(0, 4)),
-                    ("open", chooser.randint(1, 5), "plain", "x"), ("copy", chooser.randint(1, 5), ("lines", 0, 0), None),
+                    ("keep",), ("desk", chooser.choice("abcd")), ("begin", "a", "pad", ""),
+                    ("back", chooser.randint(0, 4)),
+                    ("open", chooser.randint(1, 5), "plain", "x"),
+                    ("copy", chooser.randint(1, 5), ("lines", 0, 0), None),
                     ("ask", chooser.randint(1, 5), "a/plain"), ("end", chooser.randint(1, 5)),
                 ])
                 answers = []

@@ -38,7 +38,8 @@ def problem(text, names=()):
 def is_good_form(words, forms):
     """Whether the words are those of the line of a form behind forms of these names."""
     match = re.fullmatch(
-        r"form ([a-z][a-z0-9]{0,7})( cell \S+)?( level \S+)?( bold \S+)?( slant \S+)?( link \S+ \S+ \S+)?( escape \S+)?",
+        r"form ([a-z][a-z0-9]{0,7})( cell \S+)?( level \S+)?( bold \S+)?( slant \S+)?"
+        r"( link \S+ \S+ \S+)?( escape \S+)?",
         " ".join(words),
     )
     if match is None or match[1] in ("plain", *forms):
