@@ -1,10 +1,9 @@
 """The console: a desk that is worked by lines of text."""
 
-from clipforms.contents import is_characters, is_word
+from clipforms.contents import DIGITS, is_characters, is_word
 from clipforms.desk import Desk
 from clipforms.errors import InvalidCommand
 
-DIGITS = "0123456789"
 MOST_DIGITS = 9
 # What stands between the words of a command and its text.
 PARTING = " : "

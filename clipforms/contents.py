@@ -3,6 +3,7 @@
 # In their order of worth.
 FEATURES = ("cells", "nest", "link", "bold", "slant")
 NO_MARKS = ("", False, False)
+DIGITS = "0123456789"
 WORD_CHARACTERS = "abcdefghijklmnopqrstuvwxyz0123456789"
 MOST_WORD_CHARACTERS = 12
 MOST_LINES = 200

@@ -1,13 +1,12 @@
 """Programs as texts: the forms and the makers that a program brings, one per line."""
 
-from clipforms.contents import is_word
+from clipforms.contents import DIGITS, is_word
 from clipforms.errors import SyntaxProblem
 from clipforms.forms import BOLD, CELL, END, ESCAPE, FORM_STRINGS, LEVEL, MIDDLE, OPENING, PLAIN, SLANT
 from clipforms.forms import is_form_name, is_sign
 from clipforms.makers import MOST_COST
 
 MOST_PROGRAM_LINES = 50
-DIGITS = "0123456789"
 # The parts of a form in their order: the word, and where its signs stand in the form.
 PARTS = (
     ("cell", (CELL,)), ("level", (LEVEL,)), ("bold", (BOLD,)), ("slant", (SLANT,)),
